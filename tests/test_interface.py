@@ -1,0 +1,53 @@
+"""Everything that the interface lists for the stages that have landed is defined where it is listed."""
+
+import ast
+import importlib
+import inspect
+import pathlib
+import unittest
+
+PACKAGE = pathlib.Path(__file__).resolve().parent.parent / "pastamended"
+FUNCTIONS = {
+    "values": ["wrap(n)", "quotient(x, y)", "remainder(x, y)", "kind_of(value)", "write_value(value)"],
+    "spans": ["spans_of(pairs)", "spans_unite(first, second)", "spans_meet(first, second)",
+              "spans_minus(first, second)", "spans_hold(spans, n)", "spans_count(spans)"],
+    "regions": ["region_of(rectangles)", "unite(first, second)", "meet(first, second)", "minus(first, second)",
+                "holds(region, m, k)", "at_known(region, k)", "at_moment(region, m)", "size(region)",
+                "rectangles_of(region)", "check_region(value)"],
+    "pieces": ["pieces(regions, window)"],
+}
+CLASSES = {
+    "errors": ["DatabaseError", "StatementError", "SyntaxFault", "UnknownName", "DuplicateName", "AmbiguousName",
+               "WrongKind", "WrongCount", "Misplaced", "WrongRule", "WrongSpan", "WrongRegion", "NotYetKnown",
+               "RuleBroken", "Conflict", "BadBlock", "DiskFull", "PowerLost", "Stopped"],
+}
+CONSTANTS = {"values": ["MOST", "END", "OPEN"]}
+
+
+def body_of(module):
+    return ast.parse((PACKAGE / f"{module}.py").read_text()).body
+
+
+class InterfaceTest(unittest.TestCase):
+    def test_functions(self):
+        for module, calls in FUNCTIONS.items():
+            defined = [node.name for node in body_of(module) if isinstance(node, ast.FunctionDef)]
+            for call in calls:
+                name = call.split("(")[0]
+                self.assertIn(name, defined, module)
+                function = getattr(importlib.import_module(f"pastamended.{module}"), name)
+                self.assertEqual(name + str(inspect.signature(function)), call)
+
+    def test_classes(self):
+        for module, names in CLASSES.items():
+            defined = [node.name for node in body_of(module) if isinstance(node, ast.ClassDef)]
+            self.assertLessEqual(set(names), set(defined))
+
+    def test_constants(self):
+        for module, names in CONSTANTS.items():
+            defined = [node.targets[0].id for node in body_of(module) if isinstance(node, ast.Assign)]
+            self.assertLessEqual(set(names), set(defined))
+
+
+if __name__ == "__main__":
+    unittest.main()
