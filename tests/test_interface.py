@@ -15,6 +15,11 @@ FUNCTIONS = {
                 "holds(region, m, k)", "at_known(region, k)", "at_moment(region, m)", "size(region)",
                 "rectangles_of(region)", "check_region(value)"],
     "pieces": ["pieces(regions, window)"],
+    "words": ["words(text)"],
+    "reading": ["read_statement(text)"],
+    "trees": ["bare(tree)"],
+    "writing": ["write_statement(tree)"],
+    "plain_answers": ["value_of(e, levels, tables)", "plain_answer(question, tables, levels=())"],
 }
 CLASSES = {
     "errors": ["DatabaseError", "StatementError", "SyntaxFault", "UnknownName", "DuplicateName", "AmbiguousName",
