@@ -300,6 +300,11 @@ class BoundsTest(unittest.TestCase):
         self.assertEqual(fault_of("delete t where a b " + "(" * 21), 17)
         self.assertEqual(fault_of("delete t where exists (("), 23)
 
+    def test_closed_parentheses_do_not_count(self):
+        start = "delete t where (a) + ((a) * (b)) + "
+        self.assertIsNone(fault_of(start + "(" * 20 + "a" + ")" * 20 + " always"))
+        self.assertEqual(fault_of(start + "(" * 21 + "a" + ")" * 21 + " always"), len(start) + 20)
+
     def test_parentheses_of_all_sorts_count(self):
         text = "insert t (" + "sum (" * 19 + "a" + ")" * 20 + " always"
         self.assertIsNone(fault_of(text))

@@ -21,6 +21,7 @@ WRONG = {
     "spans in a wrong order": [(0, 1, [(5, 6), (1, 3)])],
     "strips in a wrong order": [(4, 5, [(1, 3)]), (0, 1, [(1, 3)])],
     "negative moment": [(0, 1, [(-1, 3)])],
+    "negative moment in front of others": [(0, 1, [(-1, 1), (2, 3)])],
     "negative moments": [(0, 1, [(-3, -1)])],
     "negative known number": [(-1, 1, [(1, 3)])],
     "equal neighbouring strips": [(0, 1, [(1, 3)]), (1, 2, [(1, 3)])],
