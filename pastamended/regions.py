@@ -6,12 +6,22 @@ from pastamended.spans import index_behind, spans_count, spans_hold, spans_meet,
 
 def region_of(rectangles):
     """The region of all points that at least one of the rectangles holds."""
-    return _united([[(j, k, [(a, b)])] for a, b, j, k in rectangles if a < b and j < k])
+    return unite_all([[(j, k, [(a, b)])] for a, b, j, k in rectangles if a < b and j < k])
 
 
 def unite(first, second):
     """The region of the points in at least one of the two."""
     return _combined(first, second, spans_unite)
+
+
+def unite_all(regions):
+    """The union of a list of regions, by halves: so no long region is gone through for each short one."""
+    if not regions:
+        return []
+    if len(regions) == 1:
+        return regions[0]
+    middle = len(regions) // 2
+    return unite(unite_all(regions[:middle]), unite_all(regions[middle:]))
 
 
 def meet(first, second):
@@ -70,16 +80,6 @@ def _spans_at(region, k):
     if at < len(region) and region[at][0] <= k:
         return region[at][2]
     return []
-
-
-def _united(regions):
-    """The union of the regions, by halves: so no long region is gone through for each short one."""
-    if not regions:
-        return []
-    if len(regions) == 1:
-        return regions[0]
-    middle = len(regions) // 2
-    return unite(_united(regions[:middle]), _united(regions[middle:]))
 
 
 def _combined(first, second, combine):

@@ -2,6 +2,8 @@
 
 import copy
 
+from pastamended.regions import region_of
+
 FAR = 10 ** 35
 
 
@@ -410,3 +412,112 @@ def random_statement(random, most=150):
         tree = maker.statement()
         if len(maker.row) <= most:
             return maker.row, tree
+
+
+def number(n):
+    return ("number", n)
+
+
+def cell(source, column, up=0):
+    return ("cell", up, source, column)
+
+
+def select(items, tables, where=None, group=None, having=None):
+    return ("select", items, tables, where, group, having)
+
+
+class MeaningMaker:
+    """Makes random meanings; a scope is a list of the table names of each level, the innermost last.
+
+    The kinds are a dict from table names to lists of their columns' kinds.
+    """
+
+    def __init__(self, random, kinds):
+        self.random = random
+        self.kinds_of = kinds
+        # The table without rows is taken less often than others, because most questions over it have no answer.
+        self.names = sorted(kinds) + [name for name in sorted(kinds) if name != "none"] * 3
+
+    def value(self, kind, scope, depth, gathers=None):
+        """An expression; gathers is None or, where only gatherings and these cells may stand, a list of cells."""
+        word = self.random.choice(["literal", "cell", "cell", "operator", "gather"])
+        if word == "gather" and gathers is not None and depth > 0:
+            return self.gathering(kind, scope, depth - 1)
+        if word == "operator" and kind == "number" and depth > 0:
+            if self.random.random() < 0.2:
+                return ("neg", self.value(kind, scope, depth - 1, gathers))
+            op = self.random.choice(["add", "sub", "mul", "div", "mod"])
+            return (op, self.value(kind, scope, depth - 1, gathers), self.value(kind, scope, depth - 1, gathers))
+        cells = self.cells(kind, scope) if gathers is None else self.allowed(kind, scope, gathers)
+        if word != "literal" and cells:
+            return self.random.choice(cells)
+        if kind == "text":
+            return ("text", self.random.choice(["a", "b", "c"]))
+        return ("number", self.random.choice([0, 1, 2, 3, -1, 10 ** 18]))
+
+    def gathering(self, kind, scope, depth):
+        if kind == "number" and self.random.random() < 0.4:
+            return self.random.choice([("count",), ("sum", self.value(kind, scope, depth))])
+        return (self.random.choice(["least", "greatest"]), self.value(kind, scope, depth))
+
+    def cells(self, kind, scope):
+        return [("cell", up, source, column) for up in range(len(scope))
+                for source, name in enumerate(scope[-1 - up])
+                for column, other in enumerate(self.kinds_of[name]) if other == kind]
+
+    def allowed(self, kind, scope, gathers):
+        return [one for one in self.cells(kind, scope) if one[1] > 0 or one in gathers]
+
+    def condition(self, scope, depth, gathers=None):
+        word = self.random.choice(["compare", "compare", "and", "or", "not", "exists", "truth"])
+        if word == "truth" and self.random.random() < 0.5:
+            return ("truth", self.random.choice([True, False]))
+        if word == "not" and depth > 0:
+            return ("not", self.condition(scope, depth - 1, gathers))
+        if word in ("and", "or") and depth > 0:
+            return (word, self.condition(scope, depth - 1, gathers), self.condition(scope, depth - 1, gathers))
+        if word == "exists" and gathers is None and depth > 0:
+            return ("exists", self.question(self.kinds(), scope, depth - 1))
+        kind = self.random.choice(["number", "text"])
+        op = self.random.choice(["eq", "eq", "ne", "lt", "le", "gt", "ge"])
+        return (op, self.value(kind, scope, depth - 1, gathers), self.value(kind, scope, depth - 1, gathers))
+
+    def kinds(self):
+        return [self.random.choice(["number", "text"]) for _ in range(self.random.randrange(1, 3))]
+
+    def question(self, kinds, scope, depth):
+        if self.random.random() < 0.25 and depth > 0:
+            word = self.random.choice(["union", "except", "intersect"])
+            return (word, self.question(kinds, scope, depth - 1), self.select(kinds, scope, depth - 1))
+        return self.select(kinds, scope, depth)
+
+    def select(self, kinds, scope, depth):
+        names = [self.random.choice(self.names) for _ in range(self.random.randrange(1, 3))]
+        inner = scope + [names]
+        where = self.random.choice([None, self.condition(inner, depth)])
+        group = having = None
+        if self.random.random() < 0.5:
+            own = self.cells("number", [names]) + self.cells("text", [names])
+            group = self.random.sample(own, self.random.randrange(min(3, len(own) + 1)))
+            having = self.random.choice([None, self.condition(inner, depth, group)])
+        return ("select", [self.value(kind, inner, depth, group) for kind in kinds], names, where, group, having)
+
+
+def random_region(random, most=8, count=3):
+    """A region of some random rectangles, not often empty."""
+    rectangles = []
+    for _ in range(random.choice([0] + list(range(1, count + 1)) * 4)):
+        a, b, j, k = sorted(random.sample(range(most + 1), 2)) + sorted(random.sample(range(most + 1), 2))
+        rectangles.append((a, b, j, k))
+    return region_of(rectangles)
+
+
+def random_relation(random, rows, most=8):
+    """A relation of some of the rows, with random regions."""
+    pairs = [(row, random_region(random, most)) for row in rows if random.random() < 0.8]
+    return [(row, region) for row, region in sorted(pairs) if region]
+
+
+def cuts_of(tables, m, k):
+    """The plain tables of temporal tables at a point."""
+    return {name: [row for row, region in tables[name] if (m, k) in region_points(region)] for name in tables}

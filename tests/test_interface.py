@@ -19,7 +19,14 @@ FUNCTIONS = {
     "reading": ["read_statement(text)"],
     "trees": ["bare(tree)"],
     "writing": ["write_statement(tree)"],
+    "checking": ["check_statement(tree, schemas)"],
     "plain_answers": ["value_of(e, levels, tables)", "plain_answer(question, tables, levels=())"],
+    "plain_changes": ["plain_change(statement, tables)"],
+    "plain_rules": ["rule_holds(rule, rows, tables, keys)"],
+    "relations": ["relation_of(pairs)", "cut(relation, m, k)", "within(relation, region)",
+                  "unite_relations(first, second)", "meet_relations(first, second)",
+                  "minus_relations(first, second)"],
+    "answers": ["truth(condition, levels, region, tables)", "answer(question, tables, region, levels=())"],
 }
 CLASSES = {
     "errors": ["DatabaseError", "StatementError", "SyntaxFault", "UnknownName", "DuplicateName", "AmbiguousName",

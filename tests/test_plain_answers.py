@@ -4,7 +4,7 @@ import math
 import random
 import unittest
 
-from helpers import Unchanged
+from helpers import MeaningMaker, Unchanged, cell, number, select
 from pastamended.plain_answers import plain_answer, value_of
 from pastamended.values import MOST, wrap
 
@@ -14,18 +14,6 @@ TABLES = {
     "none": [],
 }
 KINDS = {"t": ["number", "text"], "s": ["number", "number"], "none": ["text", "number"]}
-
-
-def number(n):
-    return ("number", n)
-
-
-def cell(source, column, up=0):
-    return ("cell", up, source, column)
-
-
-def select(items, tables, where=None, group=None, having=None):
-    return ("select", items, tables, where, group, having)
 
 
 class ValueTest(unittest.TestCase):
@@ -241,77 +229,6 @@ class SetsTest(unittest.TestCase):
         self.assertEqual(plain_answer(question, TABLES, ([(4,)],)), [(-4,), (4,)])
 
 
-class MeaningMaker:
-    """Makes random meanings; a scope is a list of the table names of each level, the innermost last."""
-
-    def __init__(self, random):
-        self.random = random
-
-    def value(self, kind, scope, depth, gathers=None):
-        """An expression; gathers is None or, where only gatherings and these cells may stand, a list of cells."""
-        word = self.random.choice(["literal", "cell", "cell", "operator", "gather"])
-        if word == "gather" and gathers is not None and depth > 0:
-            return self.gathering(kind, scope, depth - 1)
-        if word == "operator" and kind == "number" and depth > 0:
-            if self.random.random() < 0.2:
-                return ("neg", self.value(kind, scope, depth - 1, gathers))
-            op = self.random.choice(["add", "sub", "mul", "div", "mod"])
-            return (op, self.value(kind, scope, depth - 1, gathers), self.value(kind, scope, depth - 1, gathers))
-        cells = self.cells(kind, scope) if gathers is None else self.allowed(kind, scope, gathers)
-        if word != "literal" and cells:
-            return self.random.choice(cells)
-        if kind == "text":
-            return ("text", self.random.choice(["a", "b", "c"]))
-        return ("number", self.random.choice([0, 1, 2, 3, -1, MOST]))
-
-    def gathering(self, kind, scope, depth):
-        if kind == "number" and self.random.random() < 0.4:
-            return self.random.choice([("count",), ("sum", self.value(kind, scope, depth))])
-        return (self.random.choice(["least", "greatest"]), self.value(kind, scope, depth))
-
-    def cells(self, kind, scope):
-        return [("cell", up, source, column) for up in range(len(scope))
-                for source, name in enumerate(scope[-1 - up])
-                for column, other in enumerate(KINDS[name]) if other == kind]
-
-    def allowed(self, kind, scope, gathers):
-        return [one for one in self.cells(kind, scope) if one[1] > 0 or one in gathers]
-
-    def condition(self, scope, depth, gathers=None):
-        word = self.random.choice(["compare", "compare", "and", "or", "not", "exists", "truth"])
-        if word == "truth" and self.random.random() < 0.5:
-            return ("truth", self.random.choice([True, False]))
-        if word == "not" and depth > 0:
-            return ("not", self.condition(scope, depth - 1, gathers))
-        if word in ("and", "or") and depth > 0:
-            return (word, self.condition(scope, depth - 1, gathers), self.condition(scope, depth - 1, gathers))
-        if word == "exists" and gathers is None and depth > 0:
-            return ("exists", self.question(self.kinds(), scope, depth - 1))
-        kind = self.random.choice(["number", "text"])
-        op = self.random.choice(["eq", "eq", "ne", "lt", "le", "gt", "ge"])
-        return (op, self.value(kind, scope, depth - 1, gathers), self.value(kind, scope, depth - 1, gathers))
-
-    def kinds(self):
-        return [self.random.choice(["number", "text"]) for _ in range(self.random.randrange(1, 3))]
-
-    def question(self, kinds, scope, depth):
-        if self.random.random() < 0.25 and depth > 0:
-            word = self.random.choice(["union", "except", "intersect"])
-            return (word, self.question(kinds, scope, depth - 1), self.select(kinds, scope, depth - 1))
-        return self.select(kinds, scope, depth)
-
-    def select(self, kinds, scope, depth):
-        names = [self.random.choice(["t", "s", "s", "none"]) for _ in range(self.random.randrange(1, 3))]
-        inner = scope + [names]
-        where = self.random.choice([None, self.condition(inner, depth)])
-        group = having = None
-        if self.random.random() < 0.5:
-            own = self.cells("number", [names]) + self.cells("text", [names])
-            group = self.random.sample(own, self.random.randrange(min(3, len(own) + 1)))
-            having = self.random.choice([None, self.condition(inner, depth, group)])
-        return ("select", [self.value(kind, inner, depth, group) for kind in kinds], names, where, group, having)
-
-
 def expected_value(e, levels, tables, members=()):
     """The value of an expression, told by the words of the document alone."""
     word, *parts = e
@@ -363,7 +280,7 @@ def expected_answer(question, tables, levels):
 class RandomQuestionsTest(unittest.TestCase):
     def test_random_questions(self):
         source = random.Random(12)
-        maker = MeaningMaker(source)
+        maker = MeaningMaker(source, KINDS)
         for _ in range(1500):
             outer = [[source.choice(["t", "s"])] for _ in range(source.randrange(3))]
             question = maker.question(maker.kinds(), outer, 3)
@@ -374,7 +291,7 @@ class RandomQuestionsTest(unittest.TestCase):
 
     def test_random_conditions(self):
         source = random.Random(13)
-        maker = MeaningMaker(source)
+        maker = MeaningMaker(source, KINDS)
         for _ in range(1500):
             outer = [[source.choice(["t", "s"])] for _ in range(source.randrange(1, 3))]
             levels = [[source.choice(TABLES[name]) for name in names] for names in outer]
