@@ -27,11 +27,19 @@ FUNCTIONS = {
                   "unite_relations(first, second)", "meet_relations(first, second)",
                   "minus_relations(first, second)"],
     "answers": ["truth(condition, levels, region, tables)", "answer(question, tables, region, levels=())"],
+    "changing": ["change(statement, tables, known)"],
+    "rules": ["first_broken(rules, tables, keys, known)"],
+    "parts": ["parts(condition)", "sources_of(e)"],
+    "rewriting": ["rewrite(question)", "size_of(question)"],
 }
 CLASSES = {
     "errors": ["DatabaseError", "StatementError", "SyntaxFault", "UnknownName", "DuplicateName", "AmbiguousName",
                "WrongKind", "WrongCount", "Misplaced", "WrongRule", "WrongSpan", "WrongRegion", "NotYetKnown",
                "RuleBroken", "Conflict", "BadBlock", "DiskFull", "PowerLost", "Stopped"],
+}
+# Each method stands in the body of the class itself; the call of the class is that of its __init__.
+METHODS = {
+    ("indexes", "Index"): ["Index(relation, columns)", "rows_for(values)", "put(row, region)"],
 }
 CONSTANTS = {"values": ["MOST", "END", "OPEN"]}
 
@@ -54,6 +62,17 @@ class InterfaceTest(unittest.TestCase):
         for module, names in CLASSES.items():
             defined = [node.name for node in body_of(module) if isinstance(node, ast.ClassDef)]
             self.assertLessEqual(set(names), set(defined))
+
+    def test_methods(self):
+        for (module, name), calls in METHODS.items():
+            bodies = [node.body for node in body_of(module) if isinstance(node, ast.ClassDef) and node.name == name]
+            defined = [node.name for body in bodies for node in body if isinstance(node, ast.FunctionDef)]
+            owner = getattr(importlib.import_module(f"pastamended.{module}"), name)
+            self.assertEqual(name + str(inspect.signature(owner)), calls[0])
+            for call in calls[1:]:
+                method = call.split("(")[0]
+                self.assertIn(method, defined)
+                self.assertEqual(method + str(inspect.signature(getattr(owner, method))).replace("self, ", ""), call)
 
     def test_constants(self):
         for module, names in CONSTANTS.items():
