@@ -39,8 +39,10 @@ def _united(pending, pairs):
     added = {}
     for row, spans in pairs:
         added.setdefault(row, []).extend(spans)
-    united = {row: spans_unite(pending.get(row, []), spans_of(added[row])) for row in added}
-    return {**pending, **united}
+    united = {row: pending[row] for row in pending}
+    for row in added:
+        united[row] = spans_unite(pending.get(row, []), spans_of(added[row]))
+    return united
 
 
 def _difference(first, second):

@@ -253,6 +253,20 @@ class FarTest(unittest.TestCase):
         self.assertEqual(answer(select([cell(0, 0)], ["t"]), {"t": [((1, 5), beyond)]}, beyond), [((1,), beyond)])
         self.assertEqual(truth(("exists", count), [], beyond, {"t": [((1, 5), far)]}), far)
 
+    def test_more_choices_than_can_be_gone_through(self):
+        far = [(0, 10 ** 6, [(0, 10 ** 6)])]
+        tables = {"t": [((n,), far) for n in range(60)]}
+        pairs = select([number(1)], ["t"] * 4, ("le", cell(3, 0), cell(0, 0, 1)))
+        self.assertEqual(answer(select([cell(0, 0)], ["t"], ("exists", pairs)), tables, far), tables["t"])
+        same = [("eq", ("add", cell(n, 0), number(1)), cell(n + 1, 0)) for n in range(4)]
+        where = ("and", ("and", same[3], same[2]), ("and", same[1], same[0]))
+        self.assertEqual(answer(select([cell(0, 0), cell(4, 0)], ["t"] * 5, where), tables, far),
+                         [((n, n + 4), far) for n in range(56)])
+        deep = select([number(1)], ["t"], ("ge", cell(0, 0), cell(0, 0, 1)))
+        for _ in range(15):
+            deep = select([number(1)], ["t"], ("exists", deep))
+        self.assertEqual(truth(("exists", deep), [[(3,)]], far, tables), far)
+
     def test_many_rows(self):
         source = random.Random(33)
         rows = []

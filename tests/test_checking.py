@@ -571,6 +571,13 @@ class OtherMistakesTest(CheckingCase):
             update staff set pay = ^exists (select 1 from staff) at 3
             select sum(^exists (select 1 from staff)) from staff
         """)
+        # What gathers inside of it does not make the select around it gather, in which the name would be misplaced.
+        self.check_mistakes("WrongKind", """
+            select name, ^exists (select count from notes) from staff
+            select name, ^exists (select 1 from notes where count = 1) from staff
+            select name, ^exists (select 1 from notes union select count from notes) from staff
+            select name, 1 + (^exists (select 1 from notes having count = 1)) from staff
+        """)
         self.check_right("""
             select 1 from staff where exists (select 1 from notes where exists (select 1 from tasks))
             select count from staff where not exists (select 1 from notes) or pay = 1 group boss having count = 1
@@ -632,6 +639,7 @@ class OtherMistakesTest(CheckingCase):
         self.check_mistake("WrongKind", "table new (a text, b number) refers (^b) to new key (a) key (b)")
         self.check_mistake("WrongCount", "table new (a text, b text) ^refers (a) to new key (a, b) key (a)")
         self.check_mistake("UnknownName", "table new (a text, b text) refers (a) to new key (^nope)")
+        self.check_mistake("DuplicateName", "table new (a text, b number) refers (a, b) to new key (a, ^a)")
 
     def test_wrong_spans(self):
         self.check_mistakes("WrongSpan", f"""

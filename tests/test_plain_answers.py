@@ -205,6 +205,30 @@ class GatheringTest(unittest.TestCase):
         self.check(select([cell(0, 0), ("count",)], ["t"], ("exists", inner), [cell(0, 0)]), [(1, 2), (2, 1)])
 
 
+class ManyChoicesTest(unittest.TestCase):
+    """Questions whose choices are too many to go through all of them."""
+
+    def test_one_choice_is_enough_for_an_exists(self):
+        tables = {"t": [(n,) for n in range(60)]}
+        pairs = select([number(1)], ["t"] * 4, ("le", cell(3, 0), cell(0, 0, 1)))
+        self.assertEqual(plain_answer(select([cell(0, 0)], ["t"], ("exists", pairs)), tables), tables["t"])
+        more = ("exists", ("union", pairs, select([cell(0, 0)], ["t"] * 4)))
+        self.assertEqual(plain_answer(select([cell(0, 0)], ["t"], more), tables), tables["t"])
+        deep = select([number(1)], ["t"], ("ge", cell(0, 0), cell(0, 0, 1)))
+        for _ in range(15):
+            deep = select([number(1)], ["t"], ("exists", deep))
+        self.assertEqual(len(plain_answer(select([cell(0, 0)], ["t"], ("exists", deep)), tables)), 60)
+
+    def test_parts_are_asked_as_soon_as_their_sources_are_taken(self):
+        tables = {"t": [(n, n % 7) for n in range(60)]}
+        same = [("eq", ("add", cell(n, 0), number(1)), cell(n + 1, 0)) for n in range(4)]
+        where = ("and", ("and", same[3], same[2]), ("and", same[1], same[0]))
+        self.assertEqual(plain_answer(select([cell(0, 0), cell(4, 0)], ["t"] * 5, where), tables),
+                         [(n, n + 4) for n in range(56)])
+        never = ("exists", select([number(1)], ["t"], ("lt", cell(0, 0), number(0))))
+        self.assertEqual(plain_answer(select([number(1)], ["t"] * 5, ("and", never, ("truth", True))), tables), [])
+
+
 class SetsTest(unittest.TestCase):
     def check(self, word, left, right, rows):
         self.assertEqual(Unchanged(self)(plain_answer, (word, left, right), TABLES), rows)
