@@ -74,6 +74,19 @@ def check_region(value):
         last_spans = spans
 
 
+def joined(strips):
+    """The region of ascending strips, of which some may be empty and neighbours may have equal spans."""
+    region = []
+    for j, k, spans in strips:
+        if not spans:
+            continue
+        if region and region[-1][1] == j and region[-1][2] == spans:
+            region[-1] = (region[-1][0], k, spans)
+        else:
+            region.append((j, k, spans))
+    return region
+
+
 def _spans_at(region, k):
     """Like at_known, but the very list of the region."""
     at = index_behind(region, k)
@@ -85,19 +98,6 @@ def _spans_at(region, k):
 def _combined(first, second, combine):
     """The region that has at each known number what combine makes of the spans of the two."""
     bounds = sorted({n for j, k, _ in first + second for n in (j, k)})
-    return _joined([
+    return joined([
         (j, k, combine(_spans_at(first, j), _spans_at(second, j))) for j, k in zip(bounds, bounds[1:])
     ])
-
-
-def _joined(strips):
-    """The region of ascending strips, of which some may be empty and neighbours may have equal spans."""
-    region = []
-    for j, k, spans in strips:
-        if not spans:
-            continue
-        if region and region[-1][1] == j and region[-1][2] == spans:
-            region[-1] = (region[-1][0], k, spans)
-        else:
-            region.append((j, k, spans))
-    return region

@@ -60,6 +60,13 @@ def index_behind(parts, n):
 
 def _combined(first, second, wanted):
     """The spans of the integers that are wanted, by the sets that hold them."""
+    # Most sets that meet are equal, or one of them is empty: then nothing needs to be sorted.
+    if first == second:
+        return list(first) if wanted[3] else []
+    if not second:
+        return list(first) if wanted[1] else []
+    if not first:
+        return list(second) if wanted[2] else []
     flips = sorted([(n, 1) for span in first for n in span] + [(n, 2) for span in second for n in span])
     bounds = []
     holders = 0
