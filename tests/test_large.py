@@ -1,5 +1,6 @@
 """Large tables and many commits, within seconds."""
 
+import copy
 import random
 import time
 import unittest
@@ -7,10 +8,14 @@ import unittest
 from helpers import cell, number, select
 from model import do
 from pastamended.answers import answer
+from pastamended.database import Database
+from pastamended.disk import Disk
+from pastamended.errors import PowerLost
 from pastamended.plain_answers import plain_answer
 from pastamended.plans import planned_answer
-from pastamended.regions import region_of
+from pastamended.regions import at_known, region_of
 from pastamended.relations import cut
+from pastamended.reports import difference, history
 from pastamended.store import Store
 
 EVERYTHING = [(0, 10 ** 6, [(0, 10 ** 6)])]
@@ -94,6 +99,76 @@ class ManyCommitsTest(unittest.TestCase):
         self.assertEqual(cut(found, 50, 20), [(19, sum(range(19)))])
         self.assertEqual(late.relations(), store.relations())
         self.assertLess(time.perf_counter() - started, SECONDS)
+
+
+class LargeDatabaseTest(unittest.TestCase):
+    def setUp(self):
+        self.started = time.perf_counter()
+        self.disk = Disk(6000)
+        self.database = Database(self.disk)
+
+    def tearDown(self):
+        self.assertLess(time.perf_counter() - self.started, SECONDS)
+
+    def committed(self, *texts):
+        for text in texts:
+            self.database.execute(text)
+        return self.database.commit()
+
+    def test_many_commits(self):
+        self.committed("table t (a number, n number, x text) key (a) require n >= 0 most 1000")
+        for n in range(250):
+            self.committed(f'insert t ({n}, {n}, "some text") from {n} to {n + 100000}',
+                           f"update t set n = n + 1 where a = {n // 2} from {n + 10} to {n + 20}")
+            if n % 100 == 50:
+                self.database.checkpoint()
+        expected = self.database.store.relations()
+        for _ in range(2):
+            self.assertEqual(Database(self.disk).store.relations(), expected)
+            self.database.checkpoint()
+        self.assertEqual(history(self.database, "t", [124])[-5:], [
+            (251, 10 ** 6, 124, 258, (124, 124, "some text")), (251, 10 ** 6, 258, 259, (124, 125, "some text")),
+            (251, 10 ** 6, 259, 268, (124, 126, "some text")), (251, 10 ** 6, 268, 269, (124, 125, "some text")),
+            (251, 10 ** 6, 269, 100124, (124, 124, "some text"))])
+        # The commit 101 made the row 99; at the last moments the eight rows before it are gone one by one.
+        expected = []
+        for n in range(1, 8):
+            expected += [((n,), "came", [(100099 - n, 100100 - n)]), ((n,), "went", [(100098 - n, 100099 - n)])]
+        expected += [((8,), "came", [(100091, 100092)]), ((8,), "went", [(99, 100091)]), ((9,), "came", [(99, 100091)])]
+        self.assertEqual(difference(self.database, "select count from t where a > 90", 100, 101), expected)
+
+    def test_questions_of_many_rows(self):
+        source = random.Random(7)
+        self.committed("table t (a number, b number, c number, d number, x text) key (a)",
+                       "table s (b number, y text) key (b)", 'insert s (0, "p"), (1, "q"), (2, "r") always')
+        for n in range(60):
+            values = ", ".join([str(source.randrange(5)) for _ in range(3)])
+            self.committed(f'insert t ({n}, {values}, "text {n % 4}") from {source.randrange(10 ** 5)}',
+                           f"update t set b = b + 1 where a = {source.randrange(60)} from {source.randrange(10 ** 5)}")
+        known = self.database.store.known
+        for text in ("select a, y from t, s where t.b = s.b", "select t.b, count, sum (a), least (x) from t, s group t.b",
+                     "select a from t where not exists (select 1 from t as u where u.b = t.b and u.a < t.a)",
+                     "select x from t where c > 2 union select y from s except select x from t where d = 0"):
+            whole = self.database.execute(f"{text} known 0 to {known + 1}")[1]
+            for _ in range(5):
+                m, k = source.randrange(10 ** 5), source.randrange(known + 1)
+                here = self.database.execute(f"{text} at {m} known {k}")[1]
+                self.assertEqual(cut(whole, m, k), [row for row, _ in here])
+            self.assertEqual(difference(self.database, text, known, 0), [
+                (row, "went", spans) for row, spans in [(row, at_known(region, known)) for row, region in whole] if spans])
+
+    def test_losses_in_a_long_record(self):
+        self.committed("table t (a number)")
+        for n in range(60):
+            self.database.execute(f"insert t ({n}) at {n}")
+        self.disk.fall_after(30)
+        self.assertRaises(PowerLost, self.database.commit)
+        waiting = self.disk.waiting()
+        self.assertEqual(waiting, 30)
+        for choice in (0, 2 ** waiting - 1, 0x15555555, 2 ** 29):
+            other = copy.deepcopy(self.disk)
+            other.restart(choice)
+            self.assertEqual(Database(other).store.known, 1)
 
 
 if __name__ == "__main__":
