@@ -6,6 +6,12 @@ import inspect
 import pathlib
 import unittest
 
+from pastamended.database import Database
+from pastamended.disk import Disk
+from pastamended.journal import Journal
+from pastamended.store import Store
+from pastamended.transactions import Transaction
+
 PACKAGE = pathlib.Path(__file__).resolve().parent.parent / "pastamended"
 FUNCTIONS = {
     "values": ["wrap(n)", "quotient(x, y)", "remainder(x, y)", "kind_of(value)", "write_value(value)"],
@@ -34,6 +40,9 @@ FUNCTIONS = {
     "corrections": ["corrections(relation, j, k)", "dump(name, relation, known)"],
     "orders": ["order_number(n, count)", "make_plan(select, order)", "choose_order(select, sizes)"],
     "plans": ["planned_answer(question, tables, region, orders)"],
+    "records": ["record_blocks(generation, number, text)", "read_block(text)"],
+    "images": ["image_text(store)", "store_of(text, known)"],
+    "reports": ["history(database, table, values)", "difference(database, text, j, k)"],
 }
 CLASSES = {
     "errors": ["DatabaseError", "StatementError", "SyntaxFault", "UnknownName", "DuplicateName", "AmbiguousName",
@@ -47,6 +56,11 @@ METHODS = {
                                       "undo()"],
     ("store", "Store"): ["Store()", "begin()", "relations()", "schemas()", "table_names()", "text_of(name)",
                          "rules_of(name)", "commit(transaction)", "prepare(transaction)"],
+    ("disk", "Disk"): ["Disk(size)", "block(index)", "write(index, text)", "sync()", "waiting()", "fall_after(n)",
+                       "restart(choice)"],
+    ("journal", "Journal"): ["Journal(disk)", "records()", "write_record(text)", "checkpoint(text)", "has_room(text)"],
+    ("database", "Database"): ["Database(disk)", "begin()", "execute(text, transaction=None)",
+                               "commit(transaction=None)", "undo(transaction=None)", "checkpoint()"],
 }
 CONSTANTS = {"values": ["MOST", "END", "OPEN"]}
 
@@ -79,7 +93,18 @@ class InterfaceTest(unittest.TestCase):
             for call in calls[1:]:
                 method = call.split("(")[0]
                 self.assertIn(method, defined)
-                self.assertEqual(method + str(inspect.signature(getattr(owner, method))).replace("self, ", "").replace("self", ""), call)
+                signature = str(inspect.signature(getattr(owner, method)))
+                self.assertEqual(method + signature.replace("self, ", "").replace("self", ""), call)
+
+    def test_fields(self):
+        disk = Disk(9)
+        database = Database(disk)
+        fields = [(disk, "size", int), (Store(), "known", int), (Transaction(Store()), "known", int),
+                  (database, "store", Store), (database, "transaction", Transaction)]
+        fields += [(Journal(disk), name, int) for name in ("generation", "number", "image_number")]
+        fields += [(Journal(disk), "image", str)]
+        for one, name, kind in fields:
+            self.assertIs(type(vars(one)[name]), kind, name)
 
     def test_constants(self):
         for module, names in CONSTANTS.items():
