@@ -275,6 +275,14 @@ def do(transaction, text):
     return transaction.apply(meaning_of(text, transaction.schemas()), text)
 
 
+def state_of(store):
+    """All that a store says of itself."""
+    names = store.table_names()
+    tables = [(name, store.text_of(name), store.rules_of(name)) for name in names]
+    schemas, relations = store.schemas(), store.relations()
+    return (store.known, tables, schemas, list(schemas), relations, list(relations))
+
+
 def outcome(function, *arguments):
     """What the function returns, or the name and the fields of the error that it raises."""
     try:

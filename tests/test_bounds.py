@@ -2,11 +2,13 @@
 
 import unittest
 
+from model import state_of
 from pastamended.corrections import corrections, dump
 from pastamended.database import Database
 from pastamended.disk import Disk
 from pastamended.errors import WrongCount, WrongSpan
 from pastamended.reports import difference, history
+from pastamended.store import Store
 from pastamended.values import END, MOST, OPEN
 
 LETTERS = "abcdefghijklmnopqrst"
@@ -29,11 +31,6 @@ class BoundsTest(unittest.TestCase):
         self.disk = Disk(4000)
         self.database = Database(self.disk)
 
-    def state(self):
-        store = self.database.store
-        return (store.known, [(name, store.text_of(name), store.rules_of(name)) for name in store.table_names()],
-                store.schemas(), store.relations())
-
     def committed(self, *texts):
         for text in texts:
             self.database.execute(text)
@@ -41,13 +38,13 @@ class BoundsTest(unittest.TestCase):
 
     def check_lasts(self):
         """Holds that the store is the same behind restarts, with and without a checkpoint."""
-        expected = self.state()
+        expected = state_of(self.database.store)
         for step in (lambda: None, lambda: self.database.checkpoint()):
             step()
-            self.assertEqual(self.state(), expected)
+            self.assertEqual(state_of(self.database.store), expected)
             self.disk.restart(0)
             self.database = Database(self.disk)
-            self.assertEqual(self.state(), expected)
+            self.assertEqual(state_of(self.database.store), expected)
 
     def check_dump(self, name, known):
         """Holds that the statements of a dump make the rows of the table again, in another database."""
@@ -113,7 +110,7 @@ class BoundsTest(unittest.TestCase):
         with self.assertRaises(WrongCount) as raised:
             self.database.execute(text)
         self.assertEqual(raised.exception.place, text.index("x text"))
-        self.assertEqual(self.state(), (0, [], {}, {}))
+        self.assertEqual(state_of(self.database.store), state_of(Store()))
 
     def test_sums_beyond_the_greatest_number(self):
         self.committed("table t (a number, b number)", f"insert t ({MOST}, 1), ({MOST}, 2), (- {MOST}, 3) always")
@@ -123,6 +120,26 @@ class BoundsTest(unittest.TestCase):
         self.check_lasts()
         rows = [row for row, _ in self.database.store.relations()["t"]]
         self.assertEqual(rows, [(-MOST, 1), (-MOST, 3), (MOST, 1), (MOST, 2)])
+
+    def test_statements_of_many_words(self):
+        nots, signs = "not " * 180, "- " * 180
+        self.committed(f"table t (a number) require {nots} a = 1", f"table u (a number) require {signs} a >= a",
+                       f"insert t ({signs} 1) always", "insert u (7) always")
+        self.check_lasts()
+        self.database.execute(f"update t set a = {signs} a from 5")
+        self.database.execute(f"update t set a = - - a where {' and '.join(['a = 1'] * 45)} from 5")
+        self.database.execute(f"update t set a = {' + '.join(['a'] * 90)} - 89 from 5")
+        self.database.execute(f"delete u where {' or '.join(['a = 1'] * 45)} or a = 7 from 5")
+        self.assertEqual(self.committed(f"delete t where not {nots} a = 1 always"), 2)
+        self.check_lasts()
+        everywhere = [((1,), [(3, 4, [(0, END)])])]
+        for text in (f"select a from t where {nots} a = 1", " union ".join(["select a from t"] * 40),
+                     " intersect ".join(["select a from t"] * 40),
+                     "select a from t where " + "exists (select 1 from t as x where " * 19 + "t.a = 1" + ")" * 19,
+                     "select a from t where " + "not exists (select 1 from t where " * 19 + "a = 2" + ")" * 19):
+            self.assertEqual(self.database.execute(text), ("answer", everywhere), text)
+            self.assertEqual(difference(self.database, text, 0, 2), [((1,), "came", [(0, END)])])
+        self.database.undo()
 
     def test_the_last_moment_and_the_first(self):
         self.committed("table t (a number) whole key (a)")

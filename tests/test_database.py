@@ -1,6 +1,7 @@
 import copy
 import unittest
 
+from model import state_of
 from pastamended.database import Database
 from pastamended.disk import Disk
 from pastamended.errors import (
@@ -16,11 +17,6 @@ from power import Traced, blocks_of, losses
 
 STAFF = "table staff (name text, pay number) key (name)"
 ANN = 'insert staff ("ann", 3) from 10 to 50'
-
-
-def state(store):
-    tables = [(name, store.text_of(name), store.rules_of(name)) for name in store.table_names()]
-    return (store.known, tables, store.schemas(), store.relations())
 
 
 class DatabaseTest(unittest.TestCase):
@@ -41,7 +37,7 @@ class DatabaseTest(unittest.TestCase):
         return relation
 
     def whole_state(self, *transactions):
-        return (state(self.database.store), blocks_of(self.disk), self.disk.waiting(),
+        return (state_of(self.database.store), blocks_of(self.disk), self.disk.waiting(),
                 [(one.known, one.schemas(), one.relations()) for one in (self.database.transaction,) + transactions])
 
     def check_error(self, error, fields, function, *arguments, others=()):
@@ -58,7 +54,7 @@ class ExecuteTest(DatabaseTest):
     def test_a_new_database(self):
         self.assertIsInstance(self.database.store, Store)
         self.assertIsInstance(self.database.transaction, Transaction)
-        self.assertEqual(state(self.database.store), (0, [], {}, {}))
+        self.assertEqual(state_of(self.database.store), state_of(Store()))
         self.assertEqual((self.database.transaction.known, self.database.transaction.relations()), (0, {}))
         self.assertEqual((self.disk.taken_trace(), blocks_of(self.disk)), ([], [""] * 200))
 
@@ -210,11 +206,11 @@ class CommitTest(DatabaseTest):
 
     def check_again(self):
         """Holds that a new database on the same disk has the same store."""
-        expected = state(self.database.store)
+        expected = state_of(self.database.store)
         self.disk.fall_after(0)
         self.database = Database(self.disk)
         self.disk.fall_after(None)
-        self.assertEqual(state(self.database.store), expected)
+        self.assertEqual(state_of(self.database.store), expected)
 
     def test_conflicts(self):
         self.committed(STAFF, ANN)
@@ -312,12 +308,12 @@ class BlocksTest(DatabaseTest):
         # Recovering empties what is left of the older log.
         again = Database(self.disk)
         self.check([(22, ""), (23, ""), "sync"])
-        self.assertEqual(state(again.store), state(self.database.store))
+        self.assertEqual(state_of(again.store), state_of(self.database.store))
 
     def test_a_checkpoint_of_an_empty_store(self):
         self.database.checkpoint()
         self.check([(1, "1 0 0 1 "), "sync", (0, "root 1"), "sync"])
-        self.assertEqual(state(Database(self.disk).store), (0, [], {}, {}))
+        self.assertEqual(state_of(Database(self.disk).store), state_of(Store()))
         self.assertEqual(self.committed("table t (a number)"), 1)
         self.check([(21, "1 1 0 1 table t (a number)"), "sync"])
 
@@ -342,7 +338,7 @@ class BlocksTest(DatabaseTest):
         self.assertEqual(self.committed("insert t (9) at 5"), 11)
         self.check(self.written_at(1, 1, 10, before) + [(0, "root 1"), "sync", (21, "1 11 0 1 insert t (9) at 5"), "sync"])
         again = Database(self.disk)
-        self.assertEqual(state(again.store), state(self.database.store))
+        self.assertEqual(state_of(again.store), state_of(self.database.store))
 
     def test_no_room_for_an_image(self):
         self.committed("table t (a number)")
@@ -367,7 +363,7 @@ class BlocksTest(DatabaseTest):
         # What changes nothing in effect needs no room.
         self.database.undo()
         self.assertEqual(self.committed("insert t (1) at 5", "select a from t"), known)
-        self.assertEqual(state(Database(self.disk).store), state(self.database.store))
+        self.assertEqual(state_of(Database(self.disk).store), state_of(self.database.store))
 
     def test_a_record_that_is_longer_than_the_log(self):
         self.committed("table t (a number)")
@@ -375,19 +371,19 @@ class BlocksTest(DatabaseTest):
         texts = [f"insert t ({n}) at 5" for n in range(20)]
         self.assertEqual(len(record_blocks(0, 2, "\n".join(texts))), 12)
         self.run_all(*texts)
-        before = (state(self.database.store), self.database.transaction.known, self.database.transaction.relations())
+        before = (state_of(self.database.store), self.database.transaction.known, self.database.transaction.relations())
         self.assertRaises(DiskFull, self.database.commit)
         # The checkpoint came first.
         self.check([(1, "1 1 0 1 table t (a number)"), "sync", (0, "root 1"), "sync"])
         self.assertRaises(DiskFull, self.database.commit)
         self.check([(11, "2 1 0 1 table t (a number)"), "sync", (0, "root 2"), "sync"])
-        after = (state(self.database.store), self.database.transaction.known, self.database.transaction.relations())
+        after = (state_of(self.database.store), self.database.transaction.known, self.database.transaction.relations())
         self.assertEqual(after, before)
-        self.assertEqual(state(Database(self.disk).store), before[0])
+        self.assertEqual(state_of(Database(self.disk).store), before[0])
         self.database.undo()
         self.assertEqual(self.committed(*texts[:10]), 2)
         self.assertEqual(self.committed(*texts[10:]), 3)
-        self.assertEqual(state(Database(self.disk).store), state(self.database.store))
+        self.assertEqual(state_of(Database(self.disk).store), state_of(self.database.store))
 
     def test_a_record_that_just_fits(self):
         start = "table t (a text)"
@@ -414,7 +410,7 @@ class BlocksTest(DatabaseTest):
         self.check_error(DiskFull, {}, self.database.checkpoint)
         self.check([])
         again = Database(self.disk)
-        self.assertEqual(state(again.store), state(self.database.store))
+        self.assertEqual(state_of(again.store), state_of(self.database.store))
 
 
 class LastingTest(DatabaseTest):
@@ -456,26 +452,26 @@ class LastingTest(DatabaseTest):
     def test_restarts(self):
         self.committed(STAFF, ANN)
         self.committed('insert staff ("bob", 5) from 30')
-        expected = state(self.database.store)
+        expected = state_of(self.database.store)
         self.database.execute("delete staff always")
         for _ in range(3):
             self.disk.restart(0)
             database = Database(self.disk)
-            self.assertEqual(state(database.store), expected)
-            self.assertEqual((database.transaction.known, database.transaction.relations()), (2, expected[3]))
+            self.assertEqual(state_of(database.store), expected)
+            self.assertEqual((database.transaction.known, database.transaction.relations()), (2, self.database.store.relations()))
             database.checkpoint()
-            self.assertEqual(state(Database(self.disk).store), expected)
+            self.assertEqual(state_of(Database(self.disk).store), expected)
         # Known numbers go on.
         database.execute("delete staff always")
         self.assertEqual(database.commit(), 3)
 
     def test_a_record_with_one_table_and_its_rows(self):
         self.committed("table t (a number) key (a) whole", "insert t (1) from 5 to 9", "update t set a = a + 1 from 7 to 9")
-        self.assertEqual(state(Database(self.disk).store), state(self.database.store))
+        self.assertEqual(state_of(Database(self.disk).store), state_of(self.database.store))
 
     def test_statements_that_undo_one_another(self):
         self.committed(STAFF, ANN, "delete staff always", ANN, "update staff set pay = 3 always")
-        self.assertEqual(state(Database(self.disk).store), state(self.database.store))
+        self.assertEqual(state_of(Database(self.disk).store), state_of(self.database.store))
 
 
 class PowerTest(DatabaseTest):
@@ -491,14 +487,14 @@ class PowerTest(DatabaseTest):
 
     def check_losses(self, disk, texts, last):
         """Holds what a new database has behind each loss in a last call, before which the texts are executed."""
-        old = state(Database(copy.deepcopy(disk)).store)
+        old = state_of(Database(copy.deepcopy(disk)).store)
         new = old
         if last == "commit":
             one = Database(copy.deepcopy(disk))
             for text in texts:
                 one.execute(text)
             one.commit()
-            new = state(one.store)
+            new = state_of(one.store)
 
         def action(lost):
             database = Database(lost)
@@ -514,14 +510,14 @@ class PowerTest(DatabaseTest):
         found = []
         for done, other in losses(disk, action):
             database = Database(other)
-            self.assertIn(state(database.store), [old, new])
-            found.append(state(database.store))
+            self.assertIn(state_of(database.store), [old, new])
+            found.append(state_of(database.store))
             # It goes on, and this lasts.
             database.execute("table again (a number)")
             known = database.commit()
             self.assertEqual(known, found[-1][0] + 1)
-            expected = state(database.store)
-            self.assertEqual(state(Database(other).store), expected)
+            expected = state_of(database.store)
+            self.assertEqual(state_of(Database(other).store), expected)
         self.assertEqual((found[0], found[-1]), (old, new))
         return found, old, new
 
@@ -609,7 +605,7 @@ class PowerTest(DatabaseTest):
         self.assertRaises(PowerLost, database.commit)
         disk.restart(1)
         for _, other in losses(disk, Database):
-            self.assertEqual(state(Database(other).store), state(database.store))
+            self.assertEqual(state_of(Database(other).store), state_of(database.store))
 
 
 if __name__ == "__main__":

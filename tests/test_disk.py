@@ -3,12 +3,9 @@ import unittest
 
 from pastamended.disk import Disk
 from pastamended.errors import BadBlock, PowerLost
+from power import blocks_of
 
 ALLOWED = "\n" + "".join([chr(n) for n in range(32, 127) if chr(n) != "%"])
-
-
-def blocks_of(disk):
-    return [disk.block(index) for index in range(disk.size)]
 
 
 class DiskTest(unittest.TestCase):

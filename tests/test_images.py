@@ -2,7 +2,7 @@ import random
 import unittest
 
 from helpers import Unchanged
-from model import ModelStore, TextMaker, check_store, do, meaning_of, outcome
+from model import ModelStore, TextMaker, check_store, do, meaning_of, outcome, state_of
 from pastamended.images import image_text, store_of
 from pastamended.reading import read_statement
 from pastamended.store import Store
@@ -27,21 +27,15 @@ def store_with(*commits):
     return store
 
 
-def state(store):
-    tables = [(name, store.text_of(name), store.rules_of(name)) for name in store.table_names()]
-    schemas, relations = store.schemas(), store.relations()
-    return (store.known, tables, schemas, list(schemas), relations, list(relations))
-
-
 class ImageTest(unittest.TestCase):
     def check(self, store, lines):
-        before = state(store)
+        before = state_of(store)
         text = image_text(store)
         self.assertEqual(text.split("\n") if text else [], lines)
         other = Unchanged(self)(store_of, text, store.known)
         self.assertIsInstance(other, Store)
-        self.assertEqual(state(other), before)
-        self.assertEqual(state(store), before)
+        self.assertEqual(state_of(other), before)
+        self.assertEqual(state_of(store), before)
         self.assertEqual(image_text(other), text)
 
 
@@ -49,7 +43,7 @@ class LinesTest(ImageTest):
     def test_an_empty_store(self):
         self.check(Store(), [])
         self.assertEqual(image_text(Store()), "")
-        self.assertEqual(state(store_of("", 0)), state(Store()))
+        self.assertEqual(state_of(store_of("", 0)), state_of(Store()))
         other = store_of("", 7)
         self.assertEqual((other.known, other.table_names(), other.relations()), (7, [], {}))
 
@@ -143,7 +137,7 @@ class LinesTest(ImageTest):
                 do(transaction, text)
                 expected = 3 if rule is None else ("RuleBroken", {"table": "t", "rule": rule, "moment": moment})
                 self.assertEqual(outcome(one.commit, transaction), expected)
-        self.assertEqual(state(store), state(other))
+        self.assertEqual(state_of(store), state_of(other))
 
 
 class SameStatementsTest(ImageTest):
@@ -157,7 +151,7 @@ class SameStatementsTest(ImageTest):
         for _ in range(12):
             if source.random() < 0.4:
                 other = store_of(image_text(store), store.known)
-                self.assertEqual(state(other), state(store))
+                self.assertEqual(state_of(other), state_of(store))
                 self.check_side_by_side(maker, store, other)
                 store = other
             self.do_some(maker, store, model)
@@ -174,7 +168,7 @@ class SameStatementsTest(ImageTest):
 
     def check_side_by_side(self, maker, store, other):
         """Holds that the same statements have the same answers in both stores, and two transactions the same end."""
-        before = state(store)
+        before = state_of(store)
         one = [store.begin(), other.begin()]
         two = [store.begin(), other.begin()]
         for _ in range(8):
@@ -188,7 +182,7 @@ class SameStatementsTest(ImageTest):
             else:
                 self.assertEqual(prepared[0].relations(), prepared[1].relations())
             self.assertEqual(pair[0].relations(), pair[1].relations())
-        self.assertEqual((state(store), state(other)), (before, before))
+        self.assertEqual((state_of(store), state_of(other)), (before, before))
 
 
 if __name__ == "__main__":
