@@ -45,7 +45,8 @@ def _region_with_rows(question, region, levels):
         return unite(left, _region_with_rows(question[2], minus(region, left), levels))
     if question[0] != "select" or question[1][5] is not None:
         return unite_all([own for _, own in answer_of(question, region, levels)])
-    return _region_with_choices(*_start(question, region, levels), question[3], levels)
+    choice, here = _start(question, region, levels)
+    return _region_with_choices(choice, here, question[3], levels)
 
 
 def _region_with_choices(choice, region, steps, levels):

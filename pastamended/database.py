@@ -35,7 +35,7 @@ class Database:
         chosen = self._chosen(transaction)
         prepared = self.store.prepare(chosen)
         if prepared is not None:
-            self._write("\n".join(prepared.texts()))
+            self._write("\n".join(prepared.texts_of_changes()))
             self.store.take(prepared)
         chosen.undo()
         return self.store.known

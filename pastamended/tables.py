@@ -27,7 +27,7 @@ class Tables:
     def duplicate(self):
         """The same tables once more; what is done to these has no effect on them, nor the other way round."""
         other = Tables()
-        for name in self.facts:
+        for name in list(self.facts):
             other.make(name, self.columns[name], self.rules[name], self.texts[name], self.facts[name])
         return other
 

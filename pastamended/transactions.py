@@ -37,7 +37,7 @@ class Transaction:
         self.tables = self.store.tables.duplicate()
         self.done = []
 
-    def texts(self):
+    def texts_of_changes(self):
         """The texts of its statements that are not questions."""
         return [text for statement, text, _ in self.done if statement[0] != "ask"]
 

@@ -224,6 +224,22 @@ class NamesTest(unittest.TestCase):
                 if isinstance(node, ast.Call) and isinstance(node.func, ast.Attribute):
                     self.assertIn(node.func.attr, METHODS | own, name)
 
+    def test_no_name_is_a_method_and_an_attribute(self):
+        methods = {node.name for tree in trees().values() for node in methods_of(tree)}
+        for name, tree in trees().items():
+            for node in ast.walk(tree):
+                if isinstance(node, ast.Attribute) and isinstance(node.ctx, ast.Store):
+                    self.assertNotIn(node.attr, methods, name)
+
+    def test_stars_in_calls(self):
+        for name, tree in trees().items():
+            for node in ast.walk(tree):
+                if isinstance(node, ast.Call):
+                    stars = [at for at, part in enumerate(node.args) if isinstance(part, ast.Starred)]
+                    for part in node.args[stars[0]:] if stars else []:
+                        plain = part.value if isinstance(part, ast.Starred) else part
+                        self.assertIsInstance(plain, (ast.Name, ast.Attribute, ast.Constant), f"{name} {node.lineno}")
+
     def test_double_underscore_methods(self):
         for name, tree in trees().items():
             for node in methods_of(tree):

@@ -51,7 +51,7 @@ class SideBySideTest(unittest.TestCase):
         return expected[0]
 
     def check_commit(self, store, model, transaction, other, committed):
-        known, before, texts = store.known, store.relations(), transaction.texts()
+        known, before, texts = store.known, store.relations(), transaction.texts_of_changes()
         prepared = outcome(store.prepare, transaction)
         self.assertEqual((store.known, store.relations()), (known, before))
         expected = outcome(model.commit, other)
